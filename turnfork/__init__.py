@@ -1,0 +1,1 @@
+"""Turnfork: tokens through switches that take turns."""
