@@ -67,3 +67,98 @@ def kinds(thing):
     if type(thing) in (tuple, list):
         return (type(thing).__name__, [kinds(part) for part in thing])
     return (type(thing).__name__, thing)
+
+
+class Crowd:
+    """Tokens in a net, event by event, each of which keeps the whole way that it went.
+
+    An event that is none is refused with LookupError.
+    """
+
+    def __init__(self, net):
+        self.width, self.switches, self.order = net
+        self.turns = [0 for switch in self.switches]
+        self.ends = {end: 0 for end in range(self.width)}
+        self.kinds = []
+        self.ways = []
+        self.left = set()
+
+    def within(self):
+        return [token for token in range(len(self.kinds)) if token not in self.left]
+
+    def ahead(self, token):
+        """The switches that still lie on the wire of a token, as it stands."""
+        wire, last = self.ways[token][-1]
+        return [k for k, switch in enumerate(self.switches) if k > last and wire in switch]
+
+    def do(self, event):
+        word, number = event
+        if word == "go":
+            if number not in self.within():
+                raise LookupError
+            return self.through(number) if self.ahead(number) else self.out(number)
+        if number not in range(self.width):
+            raise LookupError
+        self.kinds.append({"come": "plain", "back": "back"}[word])
+        self.ways.append([(number, -1)])
+        return len(self.kinds) - 1
+
+    def through(self, token):
+        k = self.ahead(token)[0]
+        if self.kinds[token] == "plain":
+            wire = self.switches[k][self.turns[k]]
+            self.turns[k] = (self.turns[k] + 1) % 2
+        else:
+            self.turns[k] = (self.turns[k] + 1) % 2
+            wire = self.switches[k][self.turns[k]]
+        self.ways[token].append((wire, k))
+        return ("switch", k, wire)
+
+    def out(self, token):
+        end = [e for e, wire in enumerate(self.order) if wire == self.ways[token][-1][0]][0]
+        c = self.ends[end]
+        c_behind = c + 1 if self.kinds[token] == "plain" else c - 1
+        self.ends[end] = c_behind
+        self.left.add(token)
+        return ("end", end, end + self.width * (c if self.kinds[token] == "plain" else c_behind))
+
+    def stand(self):
+        within = []
+        for token in self.within():
+            after = self.ahead(token)
+            within.append((token, self.kinds[token], self.ways[token][-1][0], after[0] if after else None))
+        return (list(self.turns), within, [self.ends[end] for end in range(self.width)])
+
+    def numbers(self):
+        return sorted(end + self.width * j for end in self.ends for j in range(max(self.ends[end], 0)))
+
+
+def some_events(chance, net, many, words=("come", "back")):
+    """Events of a net, as many as are asked for, with tokens left within."""
+    crowd = Crowd(net)
+    events = []
+    for k in range(many):
+        within = crowd.within()
+        if within and chance.randrange(5) < 3:
+            events.append(("go", chance.choice(within)))
+        else:
+            events.append((chance.choice(words), chance.randrange(net[0])))
+        crowd.do(events[-1])
+    return events
+
+
+def some_weaving(chance, net, comings):
+    """Events in which these tokens come, in any order, and go till none is within."""
+    crowd = Crowd(net)
+    coming = list(comings)
+    chance.shuffle(coming)
+    hurry = chance.randrange(1, 9)
+    events = []
+    while coming or crowd.within():
+        within = crowd.within()
+        if coming and (not within or chance.randrange(10) < hurry):
+            events.append(coming.pop())
+        else:
+            events.append(("go", chance.choice(within)))
+        crowd.do(events[-1])
+    return events

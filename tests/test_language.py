@@ -85,6 +85,28 @@ class Language(unittest.TestCase):
                 self.assertTrue(not bound.startswith("_") or bound == "__init__", (name, bound))
                 self.assertNotIn(bound, BARRED_NAMES, name)
 
+    def test_no_name_is_a_method_and_an_attribute(self):
+        methods, attributes = set(), set()
+        for name, tree in trees():
+            for node in ast.walk(tree):
+                if isinstance(node, ast.ClassDef):
+                    methods |= {part.name for part in node.body if isinstance(part, ast.FunctionDef)}
+                elif isinstance(node, ast.Attribute) and isinstance(node.ctx, ast.Store):
+                    attributes.add(node.attr)
+        self.assertEqual(methods & attributes, set())
+        of_builtins = {word for kind in (str, int, list, dict, set, bytes, tuple) for word in dir(kind)}
+        self.assertEqual((methods | attributes) & (of_builtins - {"__init__"} | BARRED_NAMES), set())
+
+    def test_locals_have_no_name_of_a_class_or_an_import(self):
+        for name, tree in trees():
+            bound = list(bound_names(tree))
+            for node in tree.body:
+                if isinstance(node, ast.ClassDef):
+                    self.assertEqual(bound.count(node.name), 1, (name, node.name))
+                elif isinstance(node, ast.ImportFrom):
+                    for alias in node.names:
+                        self.assertNotIn(alias.name, bound, name)
+
     def test_expressions(self):
         barred = (ast.Global, ast.AsyncFunctionDef, ast.Div, ast.Await)
         for name, tree in trees():
