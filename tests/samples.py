@@ -1,6 +1,16 @@
 """Nets for the tests, made from fixed seeds, and tokens sent through them one by one."""
 
 import random
+import unittest
+
+
+class Refusing(unittest.TestCase):
+    def refused(self, error, ask, *given):
+        """The refusal, which is of this class alone."""
+        with self.assertRaises(error) as caught:
+            ask(*given)
+        self.assertIs(type(caught.exception), error)
+        return caught.exception
 
 
 def in_order(width):
@@ -162,3 +172,38 @@ def some_weaving(chance, net, comings):
             events.append(("go", chance.choice(within)))
         crowd.do(events[-1])
     return events
+
+
+def shuffled(chance, width):
+    """All wires, in a drawn order."""
+    wires = list(range(width))
+    chance.shuffle(wires)
+    return tuple(wires)
+
+
+def dealt(width, total):
+    """Counts, from 0 on, of tokens dealt to the ends one by one, in turn."""
+    counts = [0] * width
+    for token in range(total):
+        counts[token % width] += 1
+    return tuple(counts)
+
+
+def stands_even(counts):
+    """Whether counts are those of tokens dealt in turn, whole rounds left out."""
+    left = [count - min(counts) for count in counts]
+    return max(left) <= 1 and tuple(left) == dealt(len(left), sum(left))
+
+
+def halvings(width):
+    """How often a width can be halved."""
+    return width.bit_length() - 1
+
+
+def layered(chance, width, deep):
+    """A net with so many layers, each as full as can be."""
+    switches = ()
+    for k in range(deep):
+        wires = shuffled(chance, width)
+        switches += tuple(zip(wires[0::2], wires[1::2]))
+    return (width, switches, shuffled(chance, width))

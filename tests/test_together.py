@@ -2,7 +2,7 @@ import itertools
 import random
 import unittest
 
-from samples import bare, in_order, kinds, pairs, some_counts, some_net, some_nets, some_turns
+from samples import Refusing, bare, in_order, kinds, pairs, shuffled, some_counts, some_net, some_nets, some_turns
 from turnfork.counts import passed, put_from, put_through
 from turnfork.errors import TooGreat
 from turnfork.nets import is_net
@@ -11,12 +11,6 @@ from turnfork.together import behind, beside, renamed
 ONE = (1, (), (0,))
 PAIR = (2, ((0, 1),), (0, 1))
 SHUFFLED = (3, ((2, 0), (1, 2)), (2, 0, 1))
-
-
-def shuffled(chance, width):
-    wires = list(range(width))
-    chance.shuffle(wires)
-    return tuple(wires)
 
 
 def leading_back(wires):
@@ -28,15 +22,10 @@ def wide(width, many):
     return (width, pairs(width, many), in_order(width)[::-1])
 
 
-class Same(unittest.TestCase):
+class Same(Refusing):
     def same(self, told, expected):
         self.assertEqual(kinds(told), kinds(expected))
         self.assertIs(is_net(told), True)
-
-    def refused(self, ask, *given):
-        with self.assertRaises(TooGreat) as caught:
-            ask(*given)
-        self.assertIs(type(caught.exception), TooGreat)
 
 
 class Beside(Same):
@@ -79,18 +68,18 @@ class Beside(Same):
 
     def test_too_great(self):
         for width in range(1, 17):
-            self.refused(beside, bare(width), bare(17 - width))
-        self.refused(beside, bare(16), bare(16))
-        self.refused(beside, wide(2, 80), wide(2, 81))
-        self.refused(beside, wide(2, 160), wide(2, 1))
-        self.refused(beside, wide(2, 1), wide(2, 160))
-        self.refused(beside, wide(2, 160), wide(2, 160))
-        self.refused(beside, wide(9, 100), wide(8, 61))
-        self.refused(beside, wide(16, 160), wide(16, 160))
+            self.refused(TooGreat, beside, bare(width), bare(17 - width))
+        self.refused(TooGreat, beside, bare(16), bare(16))
+        self.refused(TooGreat, beside, wide(2, 80), wide(2, 81))
+        self.refused(TooGreat, beside, wide(2, 160), wide(2, 1))
+        self.refused(TooGreat, beside, wide(2, 1), wide(2, 160))
+        self.refused(TooGreat, beside, wide(2, 160), wide(2, 160))
+        self.refused(TooGreat, beside, wide(9, 100), wide(8, 61))
+        self.refused(TooGreat, beside, wide(16, 160), wide(16, 160))
 
     def test_somewhat_beyond_the_limits(self):
-        self.refused(beside, bare(17), ONE)
-        self.refused(beside, wide(2, 170), ONE)
+        self.refused(TooGreat, beside, bare(17), ONE)
+        self.refused(TooGreat, beside, wide(2, 170), ONE)
 
 
 class Behind(Same):
@@ -147,13 +136,13 @@ class Behind(Same):
     def test_too_great(self):
         for width in (2, 3, 15, 16):
             for many in (1, 80, 81, 160):
-                self.refused(behind, wide(width, many), wide(width, 161 - many))
-            self.refused(behind, wide(width, 160), wide(width, 160))
+                self.refused(TooGreat, behind, wide(width, many), wide(width, 161 - many))
+            self.refused(TooGreat, behind, wide(width, 160), wide(width, 160))
 
     def test_somewhat_beyond_the_limits(self):
-        self.refused(behind, bare(17), bare(17))
-        self.refused(behind, wide(17, 100), wide(17, 100))
-        self.refused(behind, wide(4, 161), bare(4))
+        self.refused(TooGreat, behind, bare(17), bare(17))
+        self.refused(TooGreat, behind, wide(17, 100), wide(17, 100))
+        self.refused(TooGreat, behind, wide(4, 161), bare(4))
 
 
 class Renamed(Same):
@@ -199,9 +188,9 @@ class Renamed(Same):
         self.same(told, (16, tuple((15 - a, 15 - b) for a, b in pairs(16, 160)), in_order(16)))
 
     def test_too_great(self):
-        self.refused(renamed, bare(17), in_order(17))
-        self.refused(renamed, wide(4, 161), in_order(4))
-        self.refused(renamed, wide(17, 161), in_order(17))
+        self.refused(TooGreat, renamed, bare(17), in_order(17))
+        self.refused(TooGreat, renamed, wide(4, 161), in_order(4))
+        self.refused(TooGreat, renamed, wide(17, 161), in_order(17))
 
 
 class Together(Same):
@@ -209,7 +198,7 @@ class Together(Same):
         chance = random.Random(467)
         asked = [(some_net(chance, 6, 20), some_net(chance, 6, 20), shuffled(chance, 6)) for k in range(20)]
         first = [(beside(one, other), behind(one, other), renamed(one, wires)) for one, other, wires in asked]
-        self.refused(beside, bare(9), bare(8))
+        self.refused(TooGreat, beside, bare(9), bare(8))
         last = [(beside(one, other), behind(one, other), renamed(one, wires)) for one, other, wires in asked[::-1]]
         self.assertEqual(first, last[::-1])
 

@@ -42,11 +42,15 @@ def spread(counts):
     return max(counts, default=0) - min(counts, default=0)
 
 
+def is_falling(row):
+    """Whether nothing in a row is less than the one behind it."""
+    return all([one >= other for one, other in zip(row, row[1:])])
+
+
 def is_even(counts):
     """Whether counts at the ends are as even as can be, the greater ones first."""
-    falling = all([one >= other for one, other in zip(counts, counts[1:])])
     # Where counts fall, the first less the last is their spread.
-    return falling and spread(counts) <= 1
+    return is_falling(counts) and spread(counts) <= 1
 
 
 def even_of(width, total):

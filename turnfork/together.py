@@ -14,7 +14,7 @@ def fitting(width, switches, order):
 
 
 def named(net, wires):
-    """The switches and the order of a net whose wire w becomes the one at place w."""
+    """The switches and the order of a net whose wire w becomes wires[w]."""
     width, switches, order = net
     new_switches = tuple([(wires[a], wires[b]) for a, b in switches])
     new_order = tuple([wires[wire] for wire in order])
