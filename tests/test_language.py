@@ -21,6 +21,14 @@ BARRED_WORDS = re.compile(
     r"namedtuple|NamedTuple|TypedDict|TYPE_CHECKING|abstractmethod)\b|dataclass|overload|contextmanager"
 )
 
+METHODS_OF_BUILTINS = set(
+    "append clear copy count endswith extend find get index insert isalnum isalpha isdigit islower isspace isupper "
+    "items join keys ljust lower lstrip partition pop remove replace reverse rfind rjust rpartition rsplit rstrip "
+    "setdefault split splitlines startswith strip update upper values zfill bit_length "
+    "title capitalize swapcase casefold center expandtabs removeprefix removesuffix rindex isascii isdecimal "
+    "isnumeric istitle isidentifier isprintable sort".split()
+)
+
 BARRED_NAMES = {"register", "mro", "elements", "open", "input", "version_info", "with_traceback", "add_note"}
 
 
@@ -97,6 +105,13 @@ class Language(unittest.TestCase):
         of_builtins = {word for kind in (str, int, list, dict, set, bytes, tuple) for word in dir(kind)}
         self.assertEqual((methods | attributes) & (of_builtins - {"__init__"} | BARRED_NAMES), set())
 
+    def test_methods_that_are_called(self):
+        calls = [node for name, tree in trees() for node in ast.walk(tree) if isinstance(node, ast.Call)]
+        classes = [node for name, tree in trees() for node in ast.walk(tree) if isinstance(node, ast.ClassDef)]
+        own = {part.name for node in classes for part in node.body if isinstance(part, ast.FunctionDef)}
+        called = {node.func.attr for node in calls if isinstance(node.func, ast.Attribute)}
+        self.assertEqual(called - METHODS_OF_BUILTINS - own, set())
+
     def test_locals_have_no_name_of_a_class_or_an_import(self):
         for name, tree in trees():
             bound = list(bound_names(tree))
@@ -108,7 +123,7 @@ class Language(unittest.TestCase):
                         self.assertNotIn(alias.name, bound, name)
 
     def test_expressions(self):
-        barred = (ast.Global, ast.AsyncFunctionDef, ast.Div, ast.Await)
+        barred = (ast.Global, ast.AsyncFunctionDef, ast.Div, ast.Await, ast.Pow)
         for name, tree in trees():
             for node in ast.walk(tree):
                 self.assertNotIsInstance(node, barred, name)
